@@ -1,0 +1,1 @@
+"""What the beginning of a document settles about its ends."""
