@@ -2,6 +2,7 @@
 
 from soonsettled.errors import TextError
 from soonsettled.tokens import Reader
+from soonsettled.trees import ALONE, joined, separated, written
 
 SIGNS = "=()|;*+?"
 KINDS = {"*": "many", "+": "some", "?": "maybe"}
@@ -10,26 +11,12 @@ MARKS = {"many": "*", "some": "+", "maybe": "?"}
 MOST_RULES = 6
 MOST_WORDS = 16
 
-# The places of a content in a text, the loosest first.
-ALONE = 0
+# The places of a content in a text behind ALONE, the loosest first.
 IN_CHOICE = 1
 IN_ROW = 2
 MARKED = 3
 # The tightest place at which each kind of content stands without parentheses round it.
 TIGHTEST = {"choice": 0, "row": 1, "many": 2, "some": 2, "maybe": 2, "type": 3}
-
-
-def joined(kind, parts):
-    """Returns the row or choice of these parts, those of its own kind dissolved; one part stays what it is."""
-    if len(parts) == 1:
-        return parts[0]
-    contents = []
-    for part in parts:
-        if part[0] == kind:
-            contents.extend(part[1])
-        else:
-            contents.append(part)
-    return (kind, tuple(contents))
 
 
 def content_of(rows):
@@ -121,16 +108,6 @@ def parse_schema(text):
     return schema
 
 
-def separated(contents, sign, place):
-    """Returns the pieces (see pieces_of) of contents with a sign between them."""
-    pieces = []
-    for content in contents:
-        if pieces:
-            pieces.append(sign)
-        pieces.append((content, place))
-    return pieces
-
-
 def pieces_of(content, place):
     """Returns the list of strings, and of contents with their places, that the text of a content consists of."""
     kind = content[0]
@@ -147,26 +124,12 @@ def pieces_of(content, place):
     return [(content[1], MARKED), MARKS[kind]]
 
 
-def content_text(content):
-    """Returns the canonical text of a content, without parentheses round all of it."""
-    texts = []
-    # The pieces still to be written, the next one last; no recursion, for contents can be deep.
-    waiting = [(content, ALONE)]
-    while waiting:
-        piece = waiting.pop()
-        if isinstance(piece, str):
-            texts.append(piece)
-        else:
-            waiting.extend(pieces_of(piece[0], piece[1])[::-1])
-    return "".join(texts)
-
-
 def rule_text(rule):
     """Returns the canonical text of a rule."""
     word, name, content = rule
     if content == ("empty",):
         return f"{word} = {name}()"
-    return f"{word} = {name}({content_text(content)})"
+    return f"{word} = {name}({written(content, pieces_of)})"
 
 
 def print_schema(schema):

@@ -1,5 +1,6 @@
 """Another way to find the first error of a text: it follows the grammars by all stacks of symbols at once."""
 
+import ast
 import re
 
 # Point 9's grammar; "inside" is [ content ].
@@ -25,6 +26,20 @@ BEGINNING = {
     "cut": [["word", "(", "elems"], ["word", "(", "elems", "cut"]],
 }
 BEGINNING_SIGNS = "()"
+
+# Point 12's grammar; the words that it names are symbols of their own, and each of them is a word, too.
+CONDITION = {
+    "start": [["condition"]],
+    "condition": [["term", "terms"]],
+    "terms": [[], ["or", "term", "terms"]],
+    "term": [["factor", "factors"]],
+    "factors": [[], ["and", "factor", "factors"]],
+    "factor": [["all"], ["none"], ["is", "word"], ["(", "condition", ")"], ["prefix", "factor"]],
+    "prefix": [["not"], ["child"], ["below"], ["parent"], ["above"], ["earlier"], ["later"]],
+}
+CONDITION_SIGNS = "()"
+CONDITION_WORDS = ("all", "none", "is", "and", "or", "not", "child", "below", "parent", "above", "earlier", "later")
+LOOKS = CONDITION_WORDS[6:]
 
 
 def tokens(text):
@@ -52,10 +67,12 @@ def grammar_error(grammar, signs, text):
             return place, "unknown character"
     stacks = _expanded(grammar, {("start",)})
     for token, place in found:
-        symbol = token
+        symbols = [token]
         if token[0].islower():
-            symbol = "word" if len(token) <= 8 else "long"
-        stacks = _expanded(grammar, {stack[1:] for stack in stacks if stack and stack[0] == symbol})
+            symbols = ["word"] if len(token) <= 8 else ["long"]
+            if token in CONDITION_WORDS:
+                symbols.append(token)
+        stacks = _expanded(grammar, {stack[1:] for stack in stacks if stack and stack[0] in symbols})
         if not stacks:
             return place, "unexpected token"
     if () not in stacks:
@@ -89,6 +106,52 @@ def schema_error(text):
     if len(used) > 16:
         return found[0][1], "too many parts"
     return None
+
+
+def condition_of(text):
+    """Returns the condition whose text this is, by way of Python's own grammar: its "and" and "or" stand likewise."""
+    codes = dict(zip(("not",) + LOOKS, ("--", "-+", "-~", "+-", "++", "+~", "~-")))
+    text = re.sub(r"\bis\s+([a-z]+)", lambda found: "IS_" + found.group(1).upper(), text)
+    text = re.sub(r"\b(" + "|".join(codes) + r")\b", lambda found: codes[found.group(1)], text)
+    return _condition_of_node(ast.parse(text.replace("\n", " ").strip(), mode="eval").body)
+
+
+def _condition_of_node(node):
+    if isinstance(node, ast.Name):
+        return ("is", node.id[3:].lower()) if node.id.startswith("IS_") else (node.id,)
+    if isinstance(node, ast.UnaryOp):
+        code = (type(node.op), type(node.operand.op))
+        signs = [(first, second) for first in (ast.USub, ast.UAdd, ast.Invert)
+                 for second in (ast.USub, ast.UAdd, ast.Invert)]
+        return ((("not",) + LOOKS)[signs.index(code)], _condition_of_node(node.operand.operand))
+    kind = {ast.And: "and", ast.Or: "or"}[type(node.op)]
+    parts = []
+    for value in node.values:
+        part = _condition_of_node(value)
+        parts.extend(part[1] if part[0] == kind else [part])
+    return (kind, tuple(parts))
+
+
+def condition_error(text):
+    """Returns (place, message) of the error of a text of a condition, or None."""
+    error = grammar_error(CONDITION, CONDITION_SIGNS, text)
+    if error:
+        return error
+    kinds = kinds_of(condition_of(text))
+    place = tokens(text)[0][1]
+    if len(kinds) > 12:
+        return place, "too many parts"
+    if len([kind for kind in kinds if kind in LOOKS]) > 4:
+        return place, "too many looks"
+    return None
+
+
+def kinds_of(condition):
+    """Returns the kinds of all conditions within one, itself included, each as often as it stands there."""
+    inner = [part for part in condition[1:] if isinstance(part, tuple)]
+    if condition[0] in ("and", "or"):
+        inner = condition[1]
+    return [condition[0]] + [kind for part in inner for kind in kinds_of(part)]
 
 
 def changed(text, pool):

@@ -5,12 +5,10 @@ import itertools
 import unittest
 
 from soonsettled.documents import document_of, events_of, print_events, read_events
-from soonsettled.errors import SettleError, TextError
+from soonsettled.errors import TextError
 from tests import grammar
-
-
-def leaf(name):
-    return (name, ())
+from tests.cases import TextErrorCase
+from tests.samples import all_documents, leaf
 
 
 def chain_of(levels):
@@ -32,19 +30,6 @@ WALKS = [
     (("x", (("yy", (("z", (leaf("w"),)),)), leaf("abcdefgh"))),
      ["x", "yy", "z", "w", ")", ")", ")", "abcdefgh", ")", ")"], "x(yy(z(w())) abcdefgh())"),
 ]
-
-
-def all_documents(size):
-    """Returns all documents of exactly that many elements, with the names a and b."""
-    return [(name, row) for name in "ab" for row in all_rows(size - 1)]
-
-
-def all_rows(size):
-    """Returns all tuples of elements that have that many elements together."""
-    if size == 0:
-        return [()]
-    return [(first,) + rest for k in range(1, size + 1)
-            for first in all_documents(k) for rest in all_rows(size - k)]
 
 
 def walk(document):
@@ -136,16 +121,9 @@ class TextsTest(unittest.TestCase):
         self.assertEqual(print_events([]), "")
 
 
-class TextErrorsTest(unittest.TestCase):
+class TextErrorsTest(TextErrorCase):
 
-    def check(self, text, place, message):
-        with self.subTest(text=text):
-            with self.assertRaises(TextError) as caught:
-                read_events(text)
-            error = caught.exception
-            self.assertEqual((error.place, error.message), (place, message))
-            self.assertEqual(str(error), f"{message} at {place}")
-            self.assertIsInstance(error, SettleError)
+    read = staticmethod(read_events)
 
     def test_unknown_character(self):
         for text, place in [
@@ -204,12 +182,9 @@ class TextErrorsTest(unittest.TestCase):
                 self.compare("".join(row))
 
     def compare(self, text):
-        expected = grammar.events_error(text)
-        if expected:
-            self.check(text, expected[0], expected[1])
-        else:
-            events = [token for token, _ in grammar.tokens(text) if token != "("]
-            self.assertEqual(read_events(text), events, text)
+        events = self.check_against(text, grammar.events_error(text))
+        if events is not None:
+            self.assertEqual(events, [token for token, _ in grammar.tokens(text) if token != "("], text)
 
 
 class ArgumentsTest(unittest.TestCase):

@@ -69,6 +69,9 @@ class LanguageTest(unittest.TestCase):
             "errors": ["SettleError", "TextError", "NotPossible"],
             "documents": ["events_of", "document_of", "read_events", "print_events"],
             "schemas": ["parse_schema", "print_schema"],
+            "conditions": ["parse_condition", "print_condition"],
+            "meaning": ["types_of", "conforms", "holding"],
+            "life": ["living", "least_sizes"],
         }
         for name, words in listed.items():
             text = (FOLDER / f"{name}.py").read_text(encoding="ascii")

@@ -2,9 +2,9 @@
 
 import unittest
 
-from soonsettled.errors import SettleError, TextError
 from soonsettled.schemas import parse_schema, print_schema
 from tests import grammar
+from tests.cases import TextErrorCase
 
 
 def rules(many):
@@ -12,20 +12,9 @@ def rules(many):
     return ";".join(f"{chr(97 + k)}=n()" for k in range(many))
 
 
-class SchemaErrorsTest(unittest.TestCase):
+class SchemaErrorsTest(TextErrorCase):
 
-    def check(self, text, place, message):
-        with self.subTest(text=text):
-            with self.assertRaises(TextError) as caught:
-                parse_schema(text)
-            error = caught.exception
-            self.assertEqual((error.place, error.message), (place, message))
-            self.assertEqual(str(error), f"{message} at {place}")
-            self.assertIsInstance(error, SettleError)
-
-    def check_all(self, message, cases):
-        for text, place in cases:
-            self.check(text, place, message)
+    read = staticmethod(parse_schema)
 
     def test_unknown_character(self):
         self.check_all("unknown character", [
@@ -126,25 +115,16 @@ class SchemaErrorsTest(unittest.TestCase):
         self.check(text, len(text) - 3, "unknown character")
 
     def test_an_error_changes_nothing(self):
-        text = "s=a(t);t=b()"
-        schema = parse_schema(text)
-        for wrong in ("s=a(t)", "s=a(", "s=a(t);t=b();t=b()"):
-            with self.assertRaises(TextError):
-                parse_schema(wrong)
-            self.assertEqual(parse_schema(text), schema)
+        self.check_unchanged("s=a(t);t=b()", ["s=a(t)", "s=a(", "s=a(t);t=b();t=b()"])
 
 
-class ChangedTokensTest(unittest.TestCase):
+class ChangedTokensTest(TextErrorCase):
+
+    read = staticmethod(parse_schema)
 
     def compare(self, text):
-        expected = grammar.schema_error(text)
-        try:
-            schema = parse_schema(text)
-        except TextError as error:
-            self.assertEqual((error.place, error.message), expected, text)
-            self.assertEqual(str(error), f"{expected[1]} at {expected[0]}")
-        else:
-            self.assertIsNone(expected, text)
+        schema = self.check_against(text, grammar.schema_error(text))
+        if schema:
             self.assertEqual(parse_schema(print_schema(schema)), schema)
 
     def test_one_change(self):

@@ -6,30 +6,8 @@ import unittest
 from soonsettled.errors import TextError
 from soonsettled.schemas import parse_schema, print_schema
 from tests import grammar
-
-EMPTY = ("empty",)
-S = ("type", "s")
-T = ("type", "t")
-
-
-def many(content):
-    return ("many", content)
-
-
-def some(content):
-    return ("some", content)
-
-
-def maybe(content):
-    return ("maybe", content)
-
-
-def row(*contents):
-    return ("row", contents)
-
-
-def choice(*contents):
-    return ("choice", contents)
+from tests.cases import without_a_pair
+from tests.samples import EMPTY, S, T, choice, many, maybe, row, small_contents, some
 
 
 def schema_of(content):
@@ -80,26 +58,14 @@ OTHERS = [
     ("((((s)|t)|s)|t)", choice(S, T, S, T)),
     ("(s t)|(t s)", choice(row(S, T), row(T, S))), ("((s t)) s | t", choice(row(S, T, S), T)),
     ("((s|t)) s", row(choice(S, T), S)), ("(s|t) (t|s)", row(choice(S, T), choice(T, S))),
-    ("() () s", row(EMPTY, EMPTY, S)), ("(() s) ()", row(EMPTY, S, EMPTY)), ("((()) | (s)) | ()", choice(EMPTY, S, EMPTY)),
+    ("() () s", row(EMPTY, EMPTY, S)), ("(() s) ()", row(EMPTY, S, EMPTY)),
+    ("((()) | (s)) | ()", choice(EMPTY, S, EMPTY)),
     ("(s t)* (s t)", row(many(row(S, T)), S, T)), ("(s|t)+|(s|t)", choice(some(choice(S, T)), S, T)),
     ("(s|(t|s) t|(s))", choice(S, row(choice(T, S), T), S)),
-    ("s(t)", row(S, T)), ("s()", row(S, EMPTY)), ("(s)t", row(S, T)), ("s*t", row(many(S), T)), ("s*(t)", row(many(S), T)),
+    ("s(t)", row(S, T)), ("s()", row(S, EMPTY)), ("(s)t", row(S, T)), ("s*t", row(many(S), T)),
+    ("s*(t)", row(many(S), T)),
     ("()()", row(EMPTY, EMPTY)), ("()|()", choice(EMPTY, EMPTY)), ("(s?|t)s", row(choice(maybe(S), T), S)),
 ]
-
-
-def small_contents():
-    """Returns many contents of up to four levels."""
-    level = [S, T, EMPTY]
-    level = level + [f(c) for f in (many, some, maybe) for c in level] + pairs(level, level)
-    level = level + [f(c) for f in (many, some, maybe) for c in level] + pairs(level, level)
-    return level + [f(c) for f in (many, some, maybe) for c in level] + pairs(level, [S, many(T)])
-
-
-def pairs(firsts, seconds):
-    """Returns the rows and the choices of two of these."""
-    rows = [row(a, b) for a in firsts for b in seconds if a[0] != "row" and b[0] != "row"]
-    return rows + [choice(a, b) for a in firsts for b in seconds if a[0] != "choice" and b[0] != "choice"]
 
 
 def wrapped(content):
@@ -112,19 +78,6 @@ def wrapped(content):
     if kind in ("row", "choice"):
         return "( " + {"row": "", "choice": "\n|"}[kind].join([wrapped(c) for c in content[1]]) + " )"
     return "((" + wrapped(content[1]) + ")" + {"many": "*", "some": "+", "maybe": " ?"}[kind] + ")"
-
-
-def without_a_pair(text):
-    """Returns the texts that come of leaving out two parentheses that belong together."""
-    texts = []
-    begun = []
-    for at, char in enumerate(text):
-        if char == "(":
-            begun.append(at)
-        elif char == ")":
-            first = begun.pop()
-            texts.append(text[:first] + " " + text[first + 1:at] + " " + text[at + 1:])
-    return texts
 
 
 class ReadAndPrintTest(unittest.TestCase):
