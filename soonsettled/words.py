@@ -17,9 +17,9 @@ class Words:
         self.behind = {}
         # The set of the states in which a word is whole.
         self.ends = 0
-        self.read_content(content)
+        self.find_states(content)
 
-    def read_content(self, content):
+    def find_states(self, content):
         """Finds the states of a content."""
         first, last, bare = folded(content, parts_of, lambda part, spans: self.span_of(part, spans))
         self.after[0] = first
