@@ -91,20 +91,29 @@ FINDERS = {
 }
 
 
+def holds_without_looks(names, condition, parts):
+    """Returns where a condition that is no look holds, as a list of True or False by number.
+
+    names has the names of the elements by number, parts these lists of the conditions directly in the condition.
+    """
+    kind = condition[0]
+    if kind == "is":
+        return [name == condition[1] for name in names]
+    if kind == "not":
+        return [not held for held in parts[0]]
+    # What is left is an and or an or of its parts: all is an and that has none, none is an or that has none.
+    if kind in ("all", "and"):
+        return [all([part[number] for part in parts]) for number in range(len(names))]
+    return [any([part[number] for part in parts]) for number in range(len(names))]
+
+
 def holds_of(family, condition, parts):
     """Returns where a condition holds, as a list of True or False by number; parts has these lists of its parts."""
     kind = condition[0]
     if kind in FINDERS:
         finder = FINDERS[kind]
         return finder(family, parts[0])
-    if kind == "is":
-        return [name == condition[1] for name in family.names]
-    if kind == "not":
-        return [not held for held in parts[0]]
-    # What is left is an and or an or of its parts: all is an and that has none, none is an or that has none.
-    if kind in ("all", "and"):
-        return [all([part[number] for part in parts]) for number in range(len(family.names))]
-    return [any([part[number] for part in parts]) for number in range(len(family.names))]
+    return holds_without_looks(family.names, condition, parts)
 
 
 def holding(condition, document):

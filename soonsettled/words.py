@@ -76,6 +76,17 @@ class Words:
             if states >> state & 1:
                 self.after[state] |= following
 
+    def moves_from(self, state):
+        """Returns the list of (type, following) for the types that can come behind a state, and where each leads to."""
+        return [
+            (word, following) for word, behind in self.behind.items() for following in range(len(self.after))
+            if self.after[state] & behind & 1 << following
+        ]
+
+    def is_whole_at(self, state):
+        """Returns whether a word is whole in this state."""
+        return self.ends >> state & 1 == 1
+
     def step_of(self, states, types):
         """Returns the set of the states that one of these types leads to from one of these states."""
         near = 0

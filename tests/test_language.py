@@ -72,11 +72,15 @@ class LanguageTest(unittest.TestCase):
             "conditions": ["parse_condition", "print_condition"],
             "meaning": ["types_of", "conforms", "holding"],
             "life": ["living", "least_sizes"],
+            "beginnings": ["possible", "next_events", "whole"],
+            "settling": ["settled", "least_end", "forced", "end_with"],
+            "stream": ["Stream"],
+            "consequences": ["follows", "satisfiable"],
         }
         for name, words in listed.items():
             text = (FOLDER / f"{name}.py").read_text(encoding="ascii")
             for word in words:
-                self.assertTrue(re.search(rf"^(def|class) {word}\(", text, re.MULTILINE), word)
+                self.assertTrue(re.search(rf"^(def|class) {word}[(:]", text, re.MULTILINE), word)
 
 
 if __name__ == "__main__":
